@@ -1,8 +1,10 @@
 package tests
 
 import (
+	"fmt"
 	"math"
 	"slices"
+	"testing"
 
 	"loop.example/g01203/impl"
 )
@@ -119,4 +121,97 @@ func isLineByTraits(a, b, c [4]int) bool {
 		}
 	}
 	return true
+}
+
+// blockedByTraits returns the numbers of all cards that are not in a hand and make a line with
+// two of its cards.
+func blockedByTraits(h [][4]int) []int {
+	numbers := []int{}
+	for number, c := range allCards() {
+		if !slices.Contains(h, c) && len(pairsByTraits(h, c)) > 0 {
+			numbers = append(numbers, number)
+		}
+	}
+	return numbers
+}
+
+// pairsByTraits returns the places of all pairs of cards of a hand with which a card makes a line.
+func pairsByTraits(h [][4]int, c [4]int) [][2]int {
+	pairs := [][2]int{}
+	for i := range h {
+		for j := i + 1; j < len(h); j++ {
+			if isLineByTraits(h[i], h[j], c) {
+				pairs = append(pairs, [2]int{i, j})
+			}
+		}
+	}
+	return pairs
+}
+
+// greatCap returns the cap of 20 cards that are not 0000 but solve an equation: two of them that
+// are each other's negative make a line with 0000, and no three of them make one.
+func greatCap() [][4]int {
+	h := [][4]int{}
+	for _, c := range allCards()[1:] {
+		if (c[0]*c[1]+c[2]*c[2]+c[3]*c[3])%3 == 0 {
+			h = append(h, c)
+		}
+	}
+	return h
+}
+
+// lowCap returns the full cap of the 16 cards that have no trait 2.
+func lowCap() [][4]int {
+	h := [][4]int{}
+	for _, c := range allCards() {
+		if !slices.Contains(c[:], 2) {
+			h = append(h, c)
+		}
+	}
+	return h
+}
+
+// someCaps returns caps of each size that there is among the greedy parts of some hands, and
+// parts of two full caps.
+func someCaps() [][][4]int {
+	caps := [][][4]int{}
+	for _, h := range someHands() {
+		taken := [][4]int{}
+		for _, c := range h {
+			if len(pairsByTraits(taken, c)) == 0 {
+				taken = append(taken, c)
+			}
+		}
+		caps = append(caps, taken)
+	}
+	for _, full := range [][][4]int{lowCap(), greatCap()} {
+		for size := range full {
+			caps = append(caps, full[:size], full[size:])
+		}
+	}
+	return caps
+}
+
+// tell returns all results of a call as one text.
+func tell(results ...any) string { return fmt.Sprint(results...) }
+
+// checkHandCalls checks that calls which take a list of cards return the same for the same list,
+// be it a hand or not, and leave it and the memory behind it as they are.
+func checkHandCalls(t *testing.T, calls map[string]func([][4]int) string) {
+	lists := append(someHands(), oddHands()...)
+	lists = append(lists, nil, slices.Repeat(allCards(), 500), slices.Repeat(oddCards(), 500))
+	for name, call := range calls {
+		for _, list := range lists {
+			// Behind the list there is memory that a careless append would write to.
+			backing := append(slices.Clone(list), [4]int{7, 7, 7, 7}, [4]int{8, 8, 8, 8})
+			before := slices.Clone(backing)
+			first := call(backing[:len(list)])
+			if again := call(backing[:len(list)]); again != first {
+				t.Errorf("%s: %s and %s", name, first, again)
+			}
+			if !slices.Equal(backing, before) {
+				t.Errorf("%s has changed %v to %v", name, before, backing)
+			}
+		}
+	}
 }

@@ -11,7 +11,6 @@ import (
 // handCalls are all functions of chapter 2 that take a list of cards, each as one that tells all
 // of its results.
 func handCalls() map[string]func([][4]int) string {
-	tell := func(results ...any) string { return fmt.Sprint(results...) }
 	cards := [][4]int{{}, {0, 0, 0, 2}, {1, 1, 1, 1}, {2, 2, 2, 2}, {3}, {0, -1}}
 	calls := map[string]func([][4]int) string{
 		"IsHand":    func(h [][4]int) string { return tell(impl.IsHand(h)) },
@@ -33,22 +32,7 @@ func handCalls() map[string]func([][4]int) string {
 }
 
 func TestHandFunctionsReturnAndLeaveTheirArguments(t *testing.T) {
-	lists := append(someHands(), oddHands()...)
-	lists = append(lists, nil, slices.Repeat(allCards(), 500), slices.Repeat(oddCards(), 500))
-	for name, call := range handCalls() {
-		for _, list := range lists {
-			// Behind the list there is memory that a careless append would write to.
-			backing := append(slices.Clone(list), [4]int{7, 7, 7, 7}, [4]int{8, 8, 8, 8})
-			before := slices.Clone(backing)
-			first := call(backing[:len(list)])
-			if again := call(backing[:len(list)]); again != first {
-				t.Errorf("%s: %s and %s", name, first, again)
-			}
-			if !slices.Equal(backing, before) {
-				t.Errorf("%s has changed %v to %v", name, before, backing)
-			}
-		}
-	}
+	checkHandCalls(t, handCalls())
 }
 
 func TestCardFunctionsReturnForAllArguments(t *testing.T) {
