@@ -62,7 +62,7 @@ func oddCards() [][4]int {
 	return append(cards, [4]int{-1, -1, -1, -1}, [4]int{3, 3, 3, 3})
 }
 
-// handOf returns the hand of the cards with these numbers, which must be in ascending order.
+// handOf returns the cards with these numbers; they are a hand if the numbers are ascending.
 func handOf(numbers ...int) [][4]int {
 	h := [][4]int{}
 	for _, number := range numbers {
